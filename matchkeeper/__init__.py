@@ -1,0 +1,1 @@
+"""A match kept by its referee."""
