@@ -7,8 +7,7 @@ LONGEST_HALF = 3600
 LONGEST_EXTRA = 1800
 LONGEST_TICK = 3600
 MOST_SECONDS = 1000000
-HALVES = 2
-HALVES_AND_EXTRA = 4
+MINUTE = 60
 
 
 def lengths_allowed(half, extra):
@@ -17,21 +16,23 @@ def lengths_allowed(half, extra):
     return extra == 0 or (extra >= SHORTEST and extra <= LONGEST_EXTRA)
 
 
+def minutes_rounded_up(seconds):
+    return (seconds + MINUTE - 1) // MINUTE
+
+
 class Clock:
     def __init__(self, half, extra):
-        self.half = half
-        self.extra = extra
+        self.lengths = [half, half] if extra == 0 else [half, half, extra, extra]
         self.played = 0
         self.running = False
         self.gone = 0
         self.stood = 0
 
     def all_played(self):
-        last = HALVES if self.extra == 0 else HALVES_AND_EXTRA
-        return self.played == last
+        return self.played == len(self.lengths)
 
     def length(self):
-        return self.half if self.played < HALVES else self.extra
+        return self.lengths[self.played]
 
     def kick(self):
         if self.running:
@@ -63,3 +64,12 @@ class Clock:
         self.running = False
         self.played += 1
         return self.played
+
+    def minute(self):
+        if not self.running:
+            return [NO_PERIOD]
+        earlier = sum(self.lengths[:self.played])
+        beyond = self.gone - self.length()
+        if beyond < 0:
+            return [0, (earlier + self.gone) // MINUTE + 1, 0]
+        return [0, minutes_rounded_up(earlier + self.length()), beyond // MINUTE + 1]

@@ -1,8 +1,8 @@
-"""The field: where each player is, their cards, whether play goes on, and the changes."""
+"""The field: where each player is, their cards, whether play goes on, the changes and the goals."""
 
 from matchkeeper.refusals import NO_WINDOW, NOT_NOW, NOT_ON, NOT_ON_BENCH, OUT_OF_RANGE, USED_UP, WAS_SENT_OFF
+from matchkeeper.teams import LAST_TEAM, other
 
-LAST_TEAM = 1
 PLAYERS = 18
 STARTERS = 11
 FEWEST_ON = 7
@@ -21,10 +21,21 @@ RESTS = 2
 
 MOST_CHANGES = 5
 MOST_WINDOWS = 3
+MOST_GOALS = 1000000
 
 
 def first_places():
     return [ON if player < STARTERS else BENCH for player in range(PLAYERS)]
+
+
+def as_bits(players):
+    bits = 0
+    weight = 1
+    for player in range(PLAYERS):
+        if player in players:
+            bits += weight
+        weight = 2 * weight
+    return bits
 
 
 class Field:
@@ -35,6 +46,7 @@ class Field:
         self.changes = [0, 0]
         self.windows = [0, 0]
         self.in_window = [False, False]
+        self.scored = [0, 0]
 
     def set_play(self, play):
         # A standing that turns into a rest is still the same one: only play that goes on ends its windows.
@@ -45,8 +57,20 @@ class Field:
     def is_standing(self):
         return self.play != GOES_ON
 
+    def is_on(self, team, player):
+        return self.places[team][player] == ON
+
+    def players_on(self, team):
+        return [player for player in range(PLAYERS) if self.is_on(team, player)]
+
     def too_few(self, team):
-        return self.places[team].count(ON) < FEWEST_ON
+        return len(self.players_on(team)) < FEWEST_ON
+
+    def on(self, team):
+        if team > LAST_TEAM:
+            return [OUT_OF_RANGE]
+        players = self.players_on(team)
+        return [len(players), as_bits(players)]
 
     def card(self, team, player, colour):
         if team > LAST_TEAM or player >= PLAYERS or colour > RED:
@@ -74,7 +98,7 @@ class Field:
             return OUT_OF_RANGE
         if barred or not self.is_standing():
             return NOT_NOW
-        if self.places[team][leaving] != ON:
+        if not self.is_on(team, leaving):
             return NOT_ON
         if self.places[team][coming] != BENCH:
             return NOT_ON_BENCH
@@ -91,3 +115,16 @@ class Field:
         if self.needs_window(team):
             self.in_window[team] = True
             self.windows[team] += 1
+
+    def goal(self, team, player, own):
+        if team > LAST_TEAM or player >= PLAYERS or own > 1:
+            return OUT_OF_RANGE
+        if self.is_standing():
+            return NOT_NOW
+        if not self.is_on(team, player):
+            return NOT_ON
+        scorer = other(team) if own == 1 else team
+        if self.scored[scorer] == MOST_GOALS:
+            return USED_UP
+        self.scored[scorer] += 1
+        return self.scored[scorer]

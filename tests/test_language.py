@@ -38,6 +38,14 @@ def nodes(*kinds):
     return [(name, node) for name, tree in trees() for node in ast.walk(tree) if isinstance(node, kinds)]
 
 
+WALKED = ("range", "zip", "enumerate", "reversed")
+WALKERS = ("list", "tuple", "dict", "sorted", "sum", "any", "all", "enumerate", "zip", "min", "max")
+
+
+def called(node, names):
+    return isinstance(node, ast.Call) and isinstance(node.func, ast.Name) and node.func.id in names
+
+
 class LanguageTest(unittest.TestCase):
     def test_files(self):
         for path in PACKAGE.rglob("*"):
@@ -98,3 +106,20 @@ class LanguageTest(unittest.TestCase):
         for name, node in nodes(ast.Call):
             if isinstance(node.func, ast.Attribute):
                 self.assertIn(node.func.attr, methods | set(OWN_METHODS), (name, node.lineno))
+
+    def test_walked_at_once(self):
+        at_once = [node.iter for name, node in nodes(ast.For, ast.comprehension)]
+        at_once += [node.args[0] for name, node in nodes(ast.Call) if called(node, WALKERS)]
+        at_once_lines = {ast.dump(node, include_attributes=True) for node in at_once}
+        for name, node in nodes(ast.Call):
+            if called(node, WALKED):
+                self.assertIn(ast.dump(node, include_attributes=True), at_once_lines, (name, node.lineno))
+
+    def test_names_drawn_in(self):
+        for name, tree in trees():
+            drawn = {given.name for node in tree.body if isinstance(node, ast.ImportFrom) for given in node.names}
+            read = {node.id for node in ast.walk(tree) if isinstance(node, ast.Name) and isinstance(node.ctx, ast.Load)}
+            bound = {node.id for node in ast.walk(tree) if isinstance(node, ast.Name)
+                     and isinstance(node.ctx, ast.Store)}
+            bound |= {node.arg for node in ast.walk(tree) if isinstance(node, ast.arg)}
+            self.assertEqual((set(), set()), (drawn - read, drawn & bound), name)
